@@ -1,0 +1,1 @@
+"""Cones between two ways in the plane, their least points and their sails."""
