@@ -1,4 +1,4 @@
-"""A cone by its two ends: its least points, their numbers, the sail's corners and the kind.
+"""A cone by its two ends: its least points, their numbers, what they tell, the sail's corners, the dual and the kind.
 
 A point is a pair (x, y). The ends u and v of a cone have no common divisor above 1, and cross(u, v),
 its n, is above 0.
@@ -56,6 +56,17 @@ def numbers_of(points):
     return [cross(points[i - 1], points[i + 1]) for i in range(1, len(points) - 1)]
 
 
+def told_by(points, point):
+    """The number of the first least point that tells this point with the next one, and how often each; or nothing."""
+    for i in range(len(points) - 1):
+        # Of neighbours x and y cross(x, y) is 1, so a point p is cross(p, y) times x and cross(x, p) times y.
+        first = cross(point, points[i + 1])
+        second = cross(points[i], point)
+        if first >= 0 and second >= 0:
+            return [i, first, second]
+    return []
+
+
 def corners_of(points):
     """The sail's corners, out of the least points."""
     numbers = numbers_of(points)
@@ -65,6 +76,11 @@ def corners_of(points):
             corners.append(points[i + 1])
     corners.append(points[-1])
     return corners
+
+
+def dual_ends(u, v):
+    """The ends of the cone's dual, the first and the second."""
+    return [(v[1], -v[0]), (-u[1], u[0])]
 
 
 def q_of(u, v):

@@ -7,6 +7,7 @@ from conesails.cone import answers
 LEAST = [2]
 SAIL = [3]
 KIND = [4]
+DUAL = [6]
 TOP = 2 ** 64 - 1
 
 
@@ -27,6 +28,19 @@ def begin(u, v):
 def like(u, v):
     plus, minus = two_lists([u[0], u[1], v[0], v[1]])
     return rows(5, plus, minus)
+
+
+def told(p):
+    plus, minus = two_lists(p)
+    return rows(7, plus, minus)
+
+
+def simplest(a, b, c, d):
+    return [8, a, b, c, d]
+
+
+def way(a, b):
+    return [9, a, b]
 
 
 def apart(answered):
@@ -79,6 +93,18 @@ def least_apart(answer):
     return points, answer[1 + 2 * many:]
 
 
+def walked(turns):
+    """What is looked at behind these turns, from between 0 by 1 and 1 by 0."""
+    under, over = (0, 1), (1, 0)
+    for turn in turns:
+        looked = together(under, over)
+        if turn == 1:
+            under = looked
+        else:
+            over = looked
+    return together(under, over)
+
+
 def cross(p, r):
     return p[0] * r[1] - p[1] * r[0]
 
@@ -100,6 +126,10 @@ def ends(most):
     """All points that may be ends, with no number beyond this."""
     span = range(-most, most + 1)
     return [(x, y) for x in span for y in span if gcd(x, y) == 1]
+
+
+def dual_ends(u, v):
+    return (v[1], -v[0]), (-u[1], u[0])
 
 
 def small_cones(most):
@@ -152,3 +182,33 @@ def numbers_by_words(points):
         both = together(before, behind)
         numbers.append(next(k for k in range(200) if (k * point[0], k * point[1]) == both))
     return numbers
+
+
+def check_neighbours(test, points, numbers):
+    """Promise 2, and that each number is how often the point goes into its neighbours together."""
+    test.assertEqual(len(numbers), len(points) - 2, points)
+    for x, y in zip(points, points[1:]):
+        test.assertEqual(cross(x, y), 1, points)
+    for i, k in enumerate(numbers):
+        test.assertGreaterEqual(k, 2, points)
+        test.assertEqual(together(points[i], points[i + 2]), (k * points[i + 1][0], k * points[i + 1][1]))
+
+
+def check_they_make_all(test, points, most):
+    """That the least points make all points of their cone with no number beyond this, and nothing else."""
+    u, v = points[0], points[-1]
+    span = range(-most, most + 1)
+    test.assertTrue(all(has(u, v, w) and w != (0, 0) for w in points), points)
+    for p in [(x, y) for x in span for y in span if has(u, v, (x, y))]:
+        # What is left is nearer to the origin between u and v, so taking away ends there.
+        while p != (0, 0):
+            left = [less(p, w) for w in points if has(u, v, less(p, w))]
+            test.assertTrue(left, (points, p))
+            p = left[0]
+
+
+def check_none_can_be_spared(test, points):
+    u, v = points[0], points[-1]
+    for w in points:
+        # Were w two others together, one other least point could be taken from it within the cone.
+        test.assertFalse(any(has(u, v, less(w, r)) for r in points if r != w), points)

@@ -2,8 +2,9 @@
 
 import unittest
 
-from helper import (GREATEST, LEAST, ask, ask_of_cones, begin, cross, ends, has, least_apart, least_by_words, less,
-                    numbers_by_words, small_cones, some_cones, together)
+from helper import (GREATEST, LEAST, ask, ask_of_cones, begin, check_neighbours, check_none_can_be_spared,
+                    check_they_make_all, cross, ends, least_apart, least_by_words, numbers_by_words, small_cones,
+                    some_cones)
 
 
 class LeastTest(unittest.TestCase):
@@ -49,24 +50,10 @@ class LeastTest(unittest.TestCase):
 
     def test_they_make_all_points(self):
         cones = small_cones(3)
-        span = range(-7, 8)
         for (u, v), answer in zip(cones, ask_of_cones(cones, LEAST)):
             points, _ = least_apart(answer)
-            self.assertTrue(all(has(u, v, w) and w != (0, 0) for w in points), (u, v))
-            for p in [(x, y) for x in span for y in span if has(u, v, (x, y)) and (x, y) != (0, 0)]:
-                # What is left is nearer to the origin between u and v, so taking away ends there.
-                while p != (0, 0):
-                    left = [less(p, w) for w in points if has(u, v, less(p, w))]
-                    self.assertTrue(left, (u, v, p))
-                    p = left[0]
-
-    def test_none_can_be_spared(self):
-        cones = some_cones()
-        for (u, v), answer in zip(cones, ask_of_cones(cones, LEAST)):
-            points, _ = least_apart(answer)
-            for w in points:
-                # Were w two others together, one other least point could be taken from it within the cone.
-                self.assertFalse(any(has(u, v, less(w, r)) for r in points if r != w), (u, v))
+            self.assertEqual((points[0], points[-1]), (u, v))
+            check_they_make_all(self, points, 7)
 
     def test_neighbours_and_numbers_of_many_cones(self):
         cones = some_cones()
@@ -74,12 +61,8 @@ class LeastTest(unittest.TestCase):
         for (u, v), answer in zip(cones, ask_of_cones(cones, LEAST)):
             points, numbers = least_apart(answer)
             self.assertEqual((points[0], points[-1]), (u, v))
-            self.assertEqual(len(numbers), len(points) - 2)
-            for x, y in zip(points, points[1:]):
-                self.assertEqual(cross(x, y), 1, (u, v))
-            for i, k in enumerate(numbers):
-                self.assertGreaterEqual(k, 2, (u, v))
-                self.assertEqual(together(points[i], points[i + 2]), (k * points[i + 1][0], k * points[i + 1][1]))
+            check_neighbours(self, points, numbers)
+            check_none_can_be_spared(self, points)
 
 
 if __name__ == "__main__":
